@@ -1,0 +1,1 @@
+"""Turned round and added: the calls stand in turnedsum.trains."""
