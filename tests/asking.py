@@ -15,10 +15,22 @@ def till(most):
     return (6, most)
 
 
+def meet(other, most):
+    return (9, other, most)
+
+
+def make(ones):
+    return (11, ones)
+
+
 SHOWS = (1,)
 BACK = (3,)
 ALIKE = (4,)
 TURNED = (5,)
+CARRIES = (7,)
+COMES_FROM = (8,)
+FORM = (10,)
+STEPS = (12,)
 
 GREATEST_TOLD = 4294967295
 
